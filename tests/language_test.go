@@ -1,0 +1,118 @@
+package tests
+
+import (
+	"bytes"
+	"go/ast"
+	"go/format"
+	"go/parser"
+	"go/token"
+	"os"
+	"path/filepath"
+	"slices"
+	"strconv"
+	"strings"
+	"testing"
+)
+
+const longestFunction = 60
+
+var allowedImports = []string{
+	"bytes", "cmp", "container/heap", "errors", "iter", "maps", "math", "math/bits", "slices", "sort",
+	"strconv", "strings", "sync", "sync/atomic", "unicode", "unicode/utf8",
+}
+
+// eachProgramFile hands every file of the program to look, read and parsed.
+func eachProgramFile(t *testing.T, look func(name string, text []byte, set *token.FileSet, file *ast.File)) {
+	t.Helper()
+	names, err := filepath.Glob("../impl/*")
+	if err != nil || len(names) == 0 {
+		t.Fatal("the program is not here:", err)
+	}
+	for _, name := range names {
+		if filepath.Ext(name) != ".go" {
+			t.Error("not a Go file:", name)
+			continue
+		}
+		text, err := os.ReadFile(name)
+		if err != nil {
+			t.Fatal(err)
+		}
+		set := token.NewFileSet()
+		file, err := parser.ParseFile(set, name, text, parser.ParseComments)
+		if err != nil {
+			t.Fatal(err)
+		}
+		look(name, text, set, file)
+	}
+}
+
+func TestProgramIsLaidOutByGofmt(t *testing.T) {
+	eachProgramFile(t, func(name string, text []byte, _ *token.FileSet, _ *ast.File) {
+		if laid, err := format.Source(text); err != nil || !bytes.Equal(laid, text) {
+			t.Error("not gofmt's layout:", name, err)
+		}
+	})
+}
+
+func TestProgramImportsWhatTheLanguageAllows(t *testing.T) {
+	eachProgramFile(t, func(name string, _ []byte, _ *token.FileSet, file *ast.File) {
+		for _, imported := range file.Imports {
+			path, err := strconv.Unquote(imported.Path.Value)
+			if err != nil || !slices.Contains(allowedImports, path) {
+				t.Error(name, "imports", imported.Path.Value)
+			}
+		}
+	})
+}
+
+func TestProgramHasNoDirectives(t *testing.T) {
+	eachProgramFile(t, func(name string, _ []byte, _ *token.FileSet, file *ast.File) {
+		for _, group := range file.Comments {
+			for _, line := range group.List {
+				if strings.HasPrefix(line.Text, "//go:") || strings.HasPrefix(line.Text, "// +build") {
+					t.Error(name, line.Text)
+				}
+			}
+		}
+	})
+}
+
+func TestProgramFunctionsAreShort(t *testing.T) {
+	eachProgramFile(t, func(name string, _ []byte, set *token.FileSet, file *ast.File) {
+		for _, declared := range file.Decls {
+			f, ok := declared.(*ast.FuncDecl)
+			if !ok {
+				continue
+			}
+			if lines := set.Position(f.End()).Line - set.Position(f.Pos()).Line + 1; lines > longestFunction {
+				t.Error(name, f.Name.Name, "has", lines, "lines")
+			}
+		}
+	})
+}
+
+// The way of layer 1: words are unsigned numbers, and parts are told to variadic functions.
+func TestBytesAreBuiltInTheirWay(t *testing.T) {
+	words, variadics := 0, 0
+	eachProgramFile(t, func(name string, _ []byte, _ *token.FileSet, file *ast.File) {
+		if filepath.Base(name) != "l01_bytes.go" {
+			return
+		}
+		ast.Inspect(file, func(node ast.Node) bool {
+			switch x := node.(type) {
+			case *ast.Ident:
+				if x.Name == "uint16" || x.Name == "uint32" || x.Name == "uint64" {
+					words++
+				}
+			case *ast.Ellipsis:
+				if x.Elt != nil {
+					variadics++
+				}
+			}
+			return true
+		})
+	})
+	if words == 0 || variadics == 0 {
+		t.Error("unsigned words:", words, "variadic functions:", variadics)
+	}
+}
