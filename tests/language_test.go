@@ -116,3 +116,62 @@ func TestBytesAreBuiltInTheirWay(t *testing.T) {
 		t.Error("unsigned words:", words, "variadic functions:", variadics)
 	}
 }
+
+// eachRecover hands every call of recover in the file to found, with whether it stands in a deferred function literal.
+func eachRecover(file *ast.File, found func(deferred bool)) {
+	inLiteral := map[ast.Node]bool{}
+	ast.Inspect(file, func(node ast.Node) bool {
+		switch x := node.(type) {
+		case *ast.DeferStmt:
+			if literal, ok := x.Call.Fun.(*ast.FuncLit); ok {
+				ast.Inspect(literal.Body, func(inner ast.Node) bool {
+					if _, nested := inner.(*ast.FuncLit); nested {
+						return false
+					}
+					inLiteral[inner] = true
+					return true
+				})
+			}
+		case *ast.CallExpr:
+			if isCallOf(x, "recover") {
+				found(inLiteral[x])
+			}
+		}
+		return true
+	})
+}
+
+func isCallOf(call *ast.CallExpr, name string) bool {
+	f, ok := call.Fun.(*ast.Ident)
+	return ok && f.Name == name
+}
+
+func TestProgramRecoversInDeferredLiteralsAlone(t *testing.T) {
+	eachProgramFile(t, func(name string, _ []byte, _ *token.FileSet, file *ast.File) {
+		eachRecover(file, func(deferred bool) {
+			if !deferred {
+				t.Error(name, "recovers outside a deferred function literal")
+			}
+		})
+	})
+}
+
+// The way of layer 2: what cannot be read is a panic, recovered at the face.
+func TestPacketsAreBuiltInTheirWay(t *testing.T) {
+	panics, recovers := 0, 0
+	eachProgramFile(t, func(name string, _ []byte, _ *token.FileSet, file *ast.File) {
+		if filepath.Base(name) != "l02_packet.go" {
+			return
+		}
+		eachRecover(file, func(bool) { recovers++ })
+		ast.Inspect(file, func(node ast.Node) bool {
+			if call, ok := node.(*ast.CallExpr); ok && isCallOf(call, "panic") {
+				panics++
+			}
+			return true
+		})
+	})
+	if panics == 0 || recovers == 0 {
+		t.Error("panics:", panics, "recovers:", recovers)
+	}
+}
