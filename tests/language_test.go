@@ -4,8 +4,10 @@ import (
 	"bytes"
 	"go/ast"
 	"go/format"
+	"go/importer"
 	"go/parser"
 	"go/token"
+	"go/types"
 	"os"
 	"path/filepath"
 	"slices"
@@ -173,5 +175,64 @@ func TestPacketsAreBuiltInTheirWay(t *testing.T) {
 	})
 	if panics == 0 || recovers == 0 {
 		t.Error("panics:", panics, "recovers:", recovers)
+	}
+}
+
+// typesOfProgram tells the type of each expression of the program, and its file of the name.
+func typesOfProgram(t *testing.T, base string) (map[ast.Expr]types.TypeAndValue, *ast.File) {
+	t.Helper()
+	set := token.NewFileSet()
+	names, err := filepath.Glob("../impl/*.go")
+	if err != nil {
+		t.Fatal(err)
+	}
+	var files []*ast.File
+	var named *ast.File
+	for _, name := range names {
+		file, err := parser.ParseFile(set, name, nil, parser.SkipObjectResolution)
+		if err != nil {
+			t.Fatal(err)
+		}
+		files = append(files, file)
+		if filepath.Base(name) == base {
+			named = file
+		}
+	}
+	info := &types.Info{Types: map[ast.Expr]types.TypeAndValue{}}
+	config := types.Config{Importer: importer.ForCompiler(set, "source", nil)}
+	if _, err := config.Check("impl", set, files, info); err != nil || named == nil {
+		t.Fatal(base, named != nil, err)
+	}
+	return info.Types, named
+}
+
+func isArrayOfArrays(given types.Type) bool {
+	outer, ok := given.Underlying().(*types.Array)
+	if !ok {
+		return false
+	}
+	_, ok = outer.Elem().Underlying().(*types.Array)
+	return ok
+}
+
+// The way of layer 3: ranges are arrays of arrays, compared; a label leaves the walk.
+func TestSelectorsAreBuiltInTheirWay(t *testing.T) {
+	told, file := typesOfProgram(t, "l03_select.go")
+	compared, left := 0, 0
+	ast.Inspect(file, func(node ast.Node) bool {
+		switch x := node.(type) {
+		case *ast.BinaryExpr:
+			if (x.Op == token.EQL || x.Op == token.NEQ) && isArrayOfArrays(told[x.X].Type) {
+				compared++
+			}
+		case *ast.BranchStmt:
+			if x.Tok == token.BREAK && x.Label != nil {
+				left++
+			}
+		}
+		return true
+	})
+	if compared == 0 || left == 0 {
+		t.Error("arrays of arrays compared:", compared, "walks left by a label:", left)
 	}
 }
