@@ -129,23 +129,35 @@ func TestTwoAnswersShareNoMemory(t *testing.T) {
 	}
 }
 
-func TestBytesAnswersHangOnTheArgumentsAlone(t *testing.T) {
-	list := bytesArguments()
-	first := make([][]any, len(list))
-	for i, data := range list {
-		first[i] = answersOf(data)
+// wantSameAgain asks each of n things, and then all of them again, the last one first and side by side.
+// What is asked again has room behind its end, so that an answer that hangs on a capacity is seen.
+func wantSameAgain(t *testing.T, n int, ask func(i int, roomy bool) []any) {
+	t.Helper()
+	first := make([][]any, n)
+	for i := range first {
+		first[i] = ask(i, false)
 	}
 	var all sync.WaitGroup
-	for i := len(list) - 1; i >= 0; i-- {
+	for i := n - 1; i >= 0; i-- {
 		all.Add(1)
 		go func() {
 			defer all.Done()
-			if !reflect.DeepEqual(answersOf(roomyCopy(list[i])), first[i]) {
-				t.Error("another answer the second time:", list[i])
+			if again := ask(i, true); !reflect.DeepEqual(again, first[i]) {
+				t.Error("another answer the second time:", again, first[i])
 			}
 		}()
 	}
 	all.Wait()
+}
+
+func TestBytesAnswersHangOnTheArgumentsAlone(t *testing.T) {
+	list := bytesArguments()
+	wantSameAgain(t, len(list), func(i int, roomy bool) []any {
+		if roomy {
+			return answersOf(roomyCopy(list[i]))
+		}
+		return answersOf(list[i])
+	})
 	for _, parts := range partsArguments() {
 		got, again := impl.PutParts(parts), impl.PutParts(append(make([][]byte, 0, 30), parts...))
 		wantBytes(t, "parts put again", again, got.Code, got.Bytes)

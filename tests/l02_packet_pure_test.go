@@ -4,8 +4,6 @@ import (
 	"bytes"
 	"math"
 	"math/rand"
-	"reflect"
-	"sync"
 	"testing"
 
 	"loop.example/g00205/impl"
@@ -89,30 +87,15 @@ func TestPacketAnswersAreNewMemory(t *testing.T) {
 
 func TestPacketAnswersHangOnTheArgumentsAlone(t *testing.T) {
 	list, packets := packetData(), edgePackets()
-	var first [][]any
-	for _, data := range list {
-		first = append(first, answersOfPacketData(data))
-	}
-	for _, p := range packets {
-		first = append(first, answersOfPacket(p))
-	}
-	var all sync.WaitGroup
-	for i := len(first) - 1; i >= 0; i-- {
-		all.Add(1)
-		go func() {
-			defer all.Done()
-			var again []any
-			if i < len(list) {
-				again = answersOfPacketData(roomyCopy(list[i]))
-			} else {
-				again = answersOfPacket(packets[i-len(list)])
-			}
-			if !reflect.DeepEqual(again, first[i]) {
-				t.Error("another answer the second time:", again, first[i])
-			}
-		}()
-	}
-	all.Wait()
+	wantSameAgain(t, len(list)+len(packets), func(i int, roomy bool) []any {
+		switch {
+		case i >= len(list):
+			return answersOfPacket(packets[i-len(list)])
+		case roomy:
+			return answersOfPacketData(roomyCopy(list[i]))
+		}
+		return answersOfPacketData(list[i])
+	})
 }
 
 func TestPacketFunctionsAnswerAtTheEndsOfEveryField(t *testing.T) {

@@ -3,9 +3,7 @@ package tests
 import (
 	"math"
 	"math/rand"
-	"reflect"
 	"slices"
-	"sync"
 	"testing"
 
 	"loop.example/g00205/impl"
@@ -96,31 +94,20 @@ func TestNarrowedListsAreNewMemory(t *testing.T) {
 
 func TestSelectorAnswersHangOnTheArgumentsAlone(t *testing.T) {
 	lists, sels := selLists(), edgeSels()[:400]
-	ask := func(i int) []any {
-		if i < len(lists) {
-			var all []any
-			for _, theirs := range lists {
-				all = append(all, answersOfSels(roomySels(lists[i]), roomySels(theirs))...)
-			}
-			return all
+	wantSameAgain(t, len(lists)+len(sels), func(i int, roomy bool) []any {
+		if i >= len(lists) {
+			return answersOfSel(sels[i-len(lists)], sels[len(sels)-1-(i-len(lists))])
 		}
-		return answersOfSel(sels[i-len(lists)], sels[len(sels)-1-(i-len(lists))])
-	}
-	var first [][]any
-	for i := range len(lists) + len(sels) {
-		first = append(first, ask(i))
-	}
-	var all sync.WaitGroup
-	for i := len(first) - 1; i >= 0; i-- {
-		all.Add(1)
-		go func() {
-			defer all.Done()
-			if again := ask(i); !reflect.DeepEqual(again, first[i]) {
-				t.Error("another answer the second time:", again, first[i])
+		var all []any
+		for _, theirs := range lists {
+			mine := lists[i]
+			if roomy {
+				mine, theirs = roomySels(mine), roomySels(theirs)
 			}
-		}()
-	}
-	all.Wait()
+			all = append(all, answersOfSels(mine, theirs)...)
+		}
+		return all
+	})
 }
 
 func TestSelectorFunctionsAnswerAtTheEndsOfEveryField(t *testing.T) {

@@ -236,3 +236,79 @@ func TestSelectorsAreBuiltInTheirWay(t *testing.T) {
 		t.Error("arrays of arrays compared:", compared, "walks left by a label:", left)
 	}
 }
+
+// iotaNames are the constants of the file's groups that are made with iota.
+func iotaNames(file *ast.File) []string {
+	var names []string
+	for _, declared := range file.Decls {
+		group, ok := declared.(*ast.GenDecl)
+		if !ok || group.Tok != token.CONST || !namesIdent(group, "iota") {
+			continue
+		}
+		for _, spec := range group.Specs {
+			for _, name := range spec.(*ast.ValueSpec).Names {
+				names = append(names, name.Name)
+			}
+		}
+	}
+	return names
+}
+
+func namesIdent(node ast.Node, name string) bool {
+	found := false
+	ast.Inspect(node, func(inner ast.Node) bool {
+		if x, ok := inner.(*ast.Ident); ok && x.Name == name {
+			found = true
+		}
+		return true
+	})
+	return found
+}
+
+// hasFunctionField is so of a row that keeps a function, or that is one.
+func hasFunctionField(row types.Type) bool {
+	if _, ok := row.Underlying().(*types.Signature); ok {
+		return true
+	}
+	fields, ok := row.Underlying().(*types.Struct)
+	if !ok {
+		return false
+	}
+	for i := range fields.NumFields() {
+		if _, ok := fields.Field(i).Type().Underlying().(*types.Signature); ok {
+			return true
+		}
+	}
+	return false
+}
+
+// The way of layer 4: actions are constants with iota, with function values in a table in a function.
+func TestPolicyIsBuiltInItsWay(t *testing.T) {
+	told, file := typesOfProgram(t, "l04_policy.go")
+	names := iotaNames(file)
+	for _, name := range []string{"ActionDrop", "ActionPass", "ActionSeal"} {
+		if !slices.Contains(names, name) {
+			t.Error("not made with iota:", name)
+		}
+	}
+	tables := 0
+	for _, declared := range file.Decls {
+		f, ok := declared.(*ast.FuncDecl)
+		if !ok {
+			continue
+		}
+		ast.Inspect(f, func(node ast.Node) bool {
+			literal, ok := node.(*ast.CompositeLit)
+			if !ok || len(literal.Elts) < 3 {
+				return true
+			}
+			if table, ok := told[literal].Type.Underlying().(interface{ Elem() types.Type }); ok && hasFunctionField(table.Elem()) {
+				tables++
+			}
+			return true
+		})
+	}
+	if tables == 0 {
+		t.Error("no table of functions stands in a function")
+	}
+}
