@@ -237,10 +237,10 @@ func wantPolicy(t *testing.T, what string, rules []impl.Rule, packets ...impl.Pa
 	}
 }
 
-// placesAround are those of the rules, those next to them, and the ends of int64.
-func placesAround(rules []impl.Rule) []int64 {
+// placesAround are those of the list, those next to them, and the ends of int64.
+func placesAround[T any](list []T) []int64 {
 	places := []int64{math.MinInt64, math.MinInt64 + 1, math.MaxInt64 - 1, math.MaxInt64, 1 << 32}
-	for at := int64(-2); at <= int64(len(rules))+1; at++ {
+	for at := int64(-2); at <= int64(len(list))+1; at++ {
 		places = append(places, at)
 	}
 	return places

@@ -312,3 +312,38 @@ func TestPolicyIsBuiltInItsWay(t *testing.T) {
 		t.Error("no table of functions stands in a function")
 	}
 }
+
+// isMapByTerms is so of a map whose keys are terms.
+func isMapByTerms(given types.Type) bool {
+	if given == nil {
+		return false
+	}
+	table, ok := given.Underlying().(*types.Map)
+	if !ok {
+		return false
+	}
+	key, ok := table.Key().(*types.Named)
+	return ok && key.Obj().Name() == "Term"
+}
+
+// The way of layer 5: terms are struct keys of a map; what goes is deleted.
+func TestTermsAreBuiltInTheirWay(t *testing.T) {
+	told, file := typesOfProgram(t, "l05_term.go")
+	asked, deleted := 0, 0
+	ast.Inspect(file, func(node ast.Node) bool {
+		switch x := node.(type) {
+		case *ast.IndexExpr:
+			if isMapByTerms(told[x.X].Type) {
+				asked++
+			}
+		case *ast.CallExpr:
+			if isCallOf(x, "delete") && isMapByTerms(told[x.Args[0]].Type) {
+				deleted++
+			}
+		}
+		return true
+	})
+	if asked == 0 || deleted == 0 {
+		t.Error("terms asked for in a map:", asked, "terms deleted from one:", deleted)
+	}
+}
