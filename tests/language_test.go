@@ -347,3 +347,38 @@ func TestTermsAreBuiltInTheirWay(t *testing.T) {
 		t.Error("terms asked for in a map:", asked, "terms deleted from one:", deleted)
 	}
 }
+
+// isIteratorOfPlaces is so of what can be ranged over for one number of 64 bits after the other.
+func isIteratorOfPlaces(given types.Type) bool {
+	if given == nil {
+		return false
+	}
+	face, ok := given.Underlying().(*types.Signature)
+	if !ok || face.Params().Len() != 1 {
+		return false
+	}
+	yield, ok := face.Params().At(0).Type().Underlying().(*types.Signature)
+	return ok && yield.Params().Len() == 1 && types.Identical(yield.Params().At(0).Type(), types.Typ[types.Int64])
+}
+
+// The way of layer 6: what is open is gone through by an iterator that is ranged over.
+func TestWhatIsKnownIsBuiltInItsWay(t *testing.T) {
+	told, file := typesOfProgram(t, "l06_derive.go")
+	iterators, ranged := 0, 0
+	ast.Inspect(file, func(node ast.Node) bool {
+		switch x := node.(type) {
+		case *ast.FuncLit:
+			if isIteratorOfPlaces(told[x].Type) {
+				iterators++
+			}
+		case *ast.RangeStmt:
+			if isIteratorOfPlaces(told[x.X].Type) {
+				ranged++
+			}
+		}
+		return true
+	})
+	if iterators == 0 || ranged == 0 {
+		t.Error("iterators:", iterators, "ranged over:", ranged)
+	}
+}
