@@ -85,6 +85,25 @@ func doubled(n int) []impl.Term {
 	return table[:n]
 }
 
+// faultyTables have each fault that a table may have, told with its code.
+var faultyTables = []struct {
+	what  string
+	table []impl.Term
+	code  int64
+}{
+	{"no Op", tableOf(freshTerm(1), impl.Term{}), impl.ErrText},
+	{"an Op of 8", tableOf(freshTerm(1), impl.Term{Op: 8}), impl.ErrText},
+	{"a field too many", tableOf(freshTerm(1), impl.Term{Op: 1, A: 1}), impl.ErrForm},
+	{"a number out of its range", tableOf(freshTerm(1), nameTerm(10000)), impl.ErrRange},
+	{"a place behind it", tableOf(freshTerm(1), pairTerm(0, 1)), impl.ErrRange},
+	{"a half of no secret", tableOf(nameTerm(1), halfTerm(0)), impl.ErrForm},
+	{"a both with A behind B", tableOf(freshTerm(1), freshTerm(2), bothTerm(1, 0)), impl.ErrForm},
+	{"one that is there", tableOf(freshTerm(1), nameTerm(7), freshTerm(1)), impl.ErrTaken},
+	{"too many", names(401), impl.ErrMany},
+	{"too many, deep", doubled(401), impl.ErrMany},
+	{"the last one of 400 is there", behind(names(399), nameTerm(0)), impl.ErrTaken},
+}
+
 func wantedTermFault(ahead []impl.Term, x impl.Term) int64 {
 	named, known := fieldsNamed[x.Op]
 	if !known {
@@ -499,6 +518,18 @@ func shuffled(r *rand.Rand, table []impl.Term) ([]impl.Term, []int64) {
 		other = append(other, x)
 	}
 	return other, places
+}
+
+// tableBeside is another table: one that is nearly full, or has some of the same terms, or any one, by turns.
+func tableBeside(r *rand.Rand, turn int, table []impl.Term) []impl.Term {
+	switch turn % 4 {
+	case 0:
+		return someTerms(r, 396+r.Intn(5))
+	case 1:
+		other, _ := shuffled(r, table)
+		return other[:r.Intn(len(other)+1)]
+	}
+	return someTerms(r, r.Intn(40))
 }
 
 func TestNumbersOfTermsAreThoseOfTheDocument(t *testing.T) {
@@ -1135,14 +1166,8 @@ func TestATermThatIsMovedIsTheSame(t *testing.T) {
 	r := rand.New(rand.NewSource(52))
 	codes, kept := map[int64]int{}, 0
 	for round := 0; round < 400; round++ {
-		from, to := someTerms(r, 1+r.Intn(40)), someTerms(r, r.Intn(40))
-		switch round % 4 {
-		case 0:
-			to = someTerms(r, 396+r.Intn(5))
-		case 1:
-			other, _ := shuffled(r, from)
-			to = other[:r.Intn(len(other)+1)]
-		}
+		from := someTerms(r, 1+r.Intn(40))
+		to := tableBeside(r, round, from)
 		at := int64(len(from)) - 1 - r.Int63n(min(5, int64(len(from))))
 		wantMoved(t, "some term", from, at, to)
 		moved := impl.MoveTerm(from, at, to)

@@ -379,22 +379,7 @@ func TestWhatIsKnownRises(t *testing.T) {
 }
 
 func TestTheTablesFaultIsToldFirst(t *testing.T) {
-	faults := []struct {
-		what  string
-		table []impl.Term
-		code  int64
-	}{
-		{"no Op", tableOf(freshTerm(1), impl.Term{}), impl.ErrText},
-		{"a field too many", tableOf(freshTerm(1), impl.Term{Op: 1, A: 1}), impl.ErrForm},
-		{"a number out of its range", tableOf(freshTerm(1), nameTerm(10000)), impl.ErrRange},
-		{"a place behind it", tableOf(freshTerm(1), pairTerm(0, 1)), impl.ErrRange},
-		{"a half of no secret", tableOf(nameTerm(1), halfTerm(0)), impl.ErrForm},
-		{"a both with A behind B", tableOf(freshTerm(1), freshTerm(2), bothTerm(1, 0)), impl.ErrForm},
-		{"one that is there", tableOf(freshTerm(1), freshTerm(1)), impl.ErrTaken},
-		{"too many", names(401), impl.ErrMany},
-		{"the last one of 400 is there", behind(names(399), nameTerm(0)), impl.ErrTaken},
-	}
-	for _, fault := range faults {
+	for _, fault := range faultyTables {
 		for _, known := range [][]int64{nil, {0}, {0, 1}, {1, 0}, {0, 0}, {-1}, {400}, {math.MinInt64}, {math.MaxInt64}, upTo(400), upTo(401), make([]int64, 401)} {
 			wantAllKnownCodes(t, fmt.Sprint(fault.what, ", ", len(known), " known"), fault.table, known, fault.code)
 		}

@@ -382,3 +382,43 @@ func TestWhatIsKnownIsBuiltInItsWay(t *testing.T) {
 		t.Error("iterators:", iterators, "ranged over:", ranged)
 	}
 }
+
+// kindsTold counts the types that the cases of a type switch name.
+func kindsTold(given *ast.TypeSwitchStmt) int {
+	kinds := 0
+	for _, clause := range given.Body.List {
+		kinds += len(clause.(*ast.CaseClause).List)
+	}
+	return kinds
+}
+
+// switchedValue is what a type switch asks the type of.
+func switchedValue(given *ast.TypeSwitchStmt) ast.Expr {
+	switch x := given.Assign.(type) {
+	case *ast.AssignStmt:
+		return x.Rhs[0].(*ast.TypeAssertExpr).X
+	case *ast.ExprStmt:
+		return x.X.(*ast.TypeAssertExpr).X
+	}
+	return nil
+}
+
+// The way of layer 7: what is written is told by a type switch over an interface.
+func TestTheWireIsBuiltInItsWay(t *testing.T) {
+	told, file := typesOfProgram(t, "l07_wire.go")
+	switches := 0
+	ast.Inspect(file, func(node ast.Node) bool {
+		given, ok := node.(*ast.TypeSwitchStmt)
+		if !ok {
+			return true
+		}
+		face, ok := told[switchedValue(given)].Type.Underlying().(*types.Interface)
+		if ok && face.NumMethods() > 0 && kindsTold(given) > 1 {
+			switches++
+		}
+		return true
+	})
+	if switches == 0 {
+		t.Error("no type switch over an interface tells what is written")
+	}
+}
