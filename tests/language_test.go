@@ -422,3 +422,39 @@ func TestTheWireIsBuiltInItsWay(t *testing.T) {
 		t.Error("no type switch over an interface tells what is written")
 	}
 }
+
+// namesType is so of a type of the program that has that name.
+func namesType(given types.Type, name string) bool {
+	named, ok := given.(*types.Named)
+	return ok && named.Obj().Name() == name
+}
+
+func isFloat(given types.Type) bool {
+	basic, ok := given.(*types.Basic)
+	return ok && basic.Kind() == types.Float64
+}
+
+// The way of layer 8: suites are compared as structs; ranks are floats, one that is not a number for none.
+func TestProposalsAreBuiltInTheirWay(t *testing.T) {
+	told, file := typesOfProgram(t, "l08_suite.go")
+	suites, ranks, none := 0, 0, 0
+	ast.Inspect(file, func(node ast.Node) bool {
+		switch x := node.(type) {
+		case *ast.BinaryExpr:
+			if (x.Op == token.EQL || x.Op == token.NEQ) && namesType(told[x.X].Type, "Suite") {
+				suites++
+			}
+			if (x.Op == token.LSS || x.Op == token.GTR) && isFloat(told[x.X].Type) {
+				ranks++
+			}
+		case *ast.SelectorExpr:
+			if namesIdent(x, "math") && x.Sel.Name == "NaN" {
+				none++
+			}
+		}
+		return true
+	})
+	if suites == 0 || ranks == 0 || none == 0 {
+		t.Error("suites compared:", suites, "ranks compared:", ranks, "ranks that are not a number:", none)
+	}
+}
