@@ -181,6 +181,13 @@ func TestPacketsAreBuiltInTheirWay(t *testing.T) {
 // typesOfProgram tells the type of each expression of the program, and its file of the name.
 func typesOfProgram(t *testing.T, base string) (map[ast.Expr]types.TypeAndValue, *ast.File) {
 	t.Helper()
+	info, file := lookedUp(t, base)
+	return info.Types, file
+}
+
+// lookedUp tells what the program's expressions and selections are, and its file of the name.
+func lookedUp(t *testing.T, base string) (*types.Info, *ast.File) {
+	t.Helper()
 	set := token.NewFileSet()
 	names, err := filepath.Glob("../impl/*.go")
 	if err != nil {
@@ -198,12 +205,12 @@ func typesOfProgram(t *testing.T, base string) (map[ast.Expr]types.TypeAndValue,
 			named = file
 		}
 	}
-	info := &types.Info{Types: map[ast.Expr]types.TypeAndValue{}}
+	info := &types.Info{Types: map[ast.Expr]types.TypeAndValue{}, Selections: map[*ast.SelectorExpr]*types.Selection{}}
 	config := types.Config{Importer: importer.ForCompiler(set, "source", nil)}
 	if _, err := config.Check("impl", set, files, info); err != nil || named == nil {
 		t.Fatal(base, named != nil, err)
 	}
-	return info.Types, named
+	return info, named
 }
 
 func isArrayOfArrays(given types.Type) bool {
@@ -456,5 +463,56 @@ func TestProposalsAreBuiltInTheirWay(t *testing.T) {
 	})
 	if suites == 0 || ranks == 0 || none == 0 {
 		t.Error("suites compared:", suites, "ranks compared:", ranks, "ranks that are not a number:", none)
+	}
+}
+
+// embedsTable is so of a struct with an embedded table of terms, or with a struct that keeps one.
+func embedsTable(given *types.Struct) bool {
+	for i := range given.NumFields() {
+		field := given.Field(i)
+		if !field.Embedded() {
+			continue
+		}
+		kept := field.Type()
+		if pointer, ok := kept.Underlying().(*types.Pointer); ok {
+			kept = pointer.Elem()
+		}
+		if isTable(kept) {
+			return true
+		}
+		inner, ok := kept.Underlying().(*types.Struct)
+		for k := 0; ok && k < inner.NumFields(); k++ {
+			if isTable(inner.Field(k).Type()) {
+				return true
+			}
+		}
+	}
+	return false
+}
+
+func isTable(given types.Type) bool {
+	list, ok := given.Underlying().(*types.Slice)
+	return ok && namesType(list.Elem(), "Term")
+}
+
+// The way of layer 9: a maker embeds the table, and its methods are promoted.
+func TestKeysAreBuiltInTheirWay(t *testing.T) {
+	info, file := lookedUp(t, "l09_keys.go")
+	makers, promoted := 0, 0
+	ast.Inspect(file, func(node ast.Node) bool {
+		switch x := node.(type) {
+		case *ast.StructType:
+			if embedsTable(info.Types[x].Type.(*types.Struct)) {
+				makers++
+			}
+		case *ast.SelectorExpr:
+			if used := info.Selections[x]; used != nil && used.Kind() == types.MethodVal && len(used.Index()) > 1 {
+				promoted++
+			}
+		}
+		return true
+	})
+	if makers == 0 || promoted == 0 {
+		t.Error("makers that embed a table:", makers, "promoted methods used:", promoted)
 	}
 }
