@@ -516,3 +516,32 @@ func TestKeysAreBuiltInTheirWay(t *testing.T) {
 		t.Error("makers that embed a table:", makers, "promoted methods used:", promoted)
 	}
 }
+
+// isWhole is so of the whole numbers, of whatever kind.
+func isWhole(given types.Type) bool {
+	basic, ok := given.Underlying().(*types.Basic)
+	return ok && basic.Info()&types.IsInteger != 0
+}
+
+// The way of layer 10: bits are shifted; numbers are ranged over as integers.
+func TestWindowsAreBuiltInTheirWay(t *testing.T) {
+	told, file := typesOfProgram(t, "l10_window.go")
+	shifted, ranged := 0, 0
+	ast.Inspect(file, func(node ast.Node) bool {
+		switch x := node.(type) {
+		case *ast.BinaryExpr:
+			// A shift that is a constant shifts nothing of a window.
+			if (x.Op == token.SHL || x.Op == token.SHR) && told[x].Value == nil {
+				shifted++
+			}
+		case *ast.RangeStmt:
+			if isWhole(told[x.X].Type) {
+				ranged++
+			}
+		}
+		return true
+	})
+	if shifted == 0 || ranged == 0 {
+		t.Error("bits shifted:", shifted, "integers ranged over:", ranged)
+	}
+}
