@@ -545,3 +545,40 @@ func TestWindowsAreBuiltInTheirWay(t *testing.T) {
 		t.Error("bits shifted:", shifted, "integers ranged over:", ranged)
 	}
 }
+
+// methodValues counts the methods of a value in a literal that are kept and not called.
+func methodValues(info *types.Info, literal *ast.CompositeLit) int {
+	kept := 0
+	for _, element := range literal.Elts {
+		if pair, ok := element.(*ast.KeyValueExpr); ok {
+			element = pair.Value
+		}
+		x, ok := element.(*ast.SelectorExpr)
+		if ok && info.Selections[x] != nil && info.Selections[x].Kind() == types.MethodVal {
+			kept++
+		}
+	}
+	return kept
+}
+
+// The way of layer 11: kinds are method values in an array; words fall through.
+func TestGatesAreBuiltInTheirWay(t *testing.T) {
+	info, file := lookedUp(t, "l11_gate.go")
+	kinds, through := 0, 0
+	ast.Inspect(file, func(node ast.Node) bool {
+		switch x := node.(type) {
+		case *ast.CompositeLit:
+			if _, ok := info.Types[x].Type.Underlying().(*types.Array); ok {
+				kinds = max(kinds, methodValues(info, x))
+			}
+		case *ast.BranchStmt:
+			if x.Tok == token.FALLTHROUGH {
+				through++
+			}
+		}
+		return true
+	})
+	if kinds < 5 || through == 0 {
+		t.Error("method values in an array:", kinds, "words that fall through:", through)
+	}
+}
